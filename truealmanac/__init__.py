@@ -1,0 +1,1 @@
+"""Truealmanac: an almanac whose moments are exact and complete."""
