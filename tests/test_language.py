@@ -30,6 +30,12 @@ BARRED_WORDS = set(
     "type typing typing_extensions enum Enum IntEnum StrEnum Flag IntFlag Generic Protocol ABC ABCMeta namedtuple "
     "NamedTuple TypedDict TYPE_CHECKING abstractmethod dataclass overload contextmanager".split()
 )
+# L12: what no name begins with, and what no name is, also not with digits or underscores behind it.
+BARRED_BEGINNINGS = "_pe_ _dcw_ _enum_ _cm_ _twin_re_ _lay_ _law_ _stub_ _sre _WallAttr".split()
+BARRED_WHOLE = re.compile("_(cold|tuplegetter|outside|record|written_out|member_names)[0-9_]*")
+BARRED_ANYWHERE = re.compile(r"\b(_wall|_WallAttr)\b")
+# The fields of a node of a tree that have names in them.
+NAME_FIELDS = ("id", "attr", "name", "asname", "arg", "rest", "module", "names", "kwd_attrs")
 
 
 def functions_of(tree):
@@ -45,6 +51,28 @@ def bound_names(tree):
             yield node.name
         elif isinstance(node, ast.arg):
             yield node.arg
+
+
+def names_of(tree):
+    """All names, where they are bound and where they are used, each with True if it is a method or an attribute."""
+    methods = {id(node) for owner in ast.walk(tree) if isinstance(owner, ast.ClassDef) for node in owner.body}
+    for node in ast.walk(tree):
+        for field in NAME_FIELDS:
+            told = getattr(node, field, None)
+            for name in told if isinstance(told, list) else [told]:
+                if isinstance(name, str):
+                    yield name, field in ("attr", "kwd_attrs") or id(node) in methods
+
+
+def names_barred_by_l12(text):
+    """The names in the text of a file that L12 bars, and the words that it bars anywhere."""
+    found = BARRED_ANYWHERE.findall(text)
+    for name, is_member in names_of(ast.parse(text)):
+        for part in name.split("."):
+            starts = any(part.startswith(beginning) for beginning in BARRED_BEGINNINGS)
+            if starts or BARRED_WHOLE.fullmatch(part) or (part.startswith("_wall") and not is_member):
+                found.append(part)
+    return found
 
 
 def docstrings_of(tree):
@@ -157,6 +185,50 @@ class Rules(unittest.TestCase):
             names += [node.targets[0].id for node in tree.body if isinstance(node, ast.Assign)]
             names += [alias.name for node in tree.body if isinstance(node, ast.ImportFrom) for alias in node.names]
             self.assertEqual(len(names), len(set(names)))
+
+    def test_names_that_l12_bars(self):
+        for path, text, _ in self.each():
+            self.assertEqual(names_barred_by_l12(text), [], path.name)
+            self.assertIsNone(BARRED_WHOLE.fullmatch(path.stem))
+
+
+class BarredNames(unittest.TestCase):
+    """That the search for barred names would find them."""
+
+    def test_each_beginning(self):
+        for beginning in [*BARRED_BEGINNINGS, "_wall"]:
+            name = beginning + "q"
+            for text in [
+                f"def {name}():\n    pass", f"class {name}:\n    pass", f"{name} = 1", f"print({name})",
+                f"def f({name}):\n    pass", f"def f(*{name}):\n    pass", f"def f(**{name}):\n    pass",
+                f"f({name}=1)", f"[1 for {name} in x]", f"from a.{name} import b", f"from a import {name}",
+                f"from a import b as {name}", f"try:\n    pass\nexcept E as {name}:\n    pass",
+                f"match x:\n    case [*{name}]:\n        pass", f"match x:\n    case {name}:\n        pass",
+                f"def f():\n    def g():\n        nonlocal {name}",
+            ]:
+                self.assertIn(name, names_barred_by_l12(text), text)
+
+    def test_methods_and_attributes(self):
+        for beginning in BARRED_BEGINNINGS:
+            name = beginning + "q"
+            for text in [f"class C:\n    def {name}(self):\n        pass", f"x.{name} = 1", f"x.{name}()"]:
+                self.assertIn(name, names_barred_by_l12(text), text)
+        for text in ["class C:\n    def _walls(self):\n        pass", "x._walls = 1", "x._walls()"]:
+            self.assertEqual(names_barred_by_l12(text), [])
+
+    def test_words(self):
+        for word in "_cold _tuplegetter _outside _record _written_out _member_names".split():
+            for name in [word, word + "_", word + "1", word + "_2_"]:
+                for text in [f"{name} = 1", f"x.{name}", f"def {name}():\n    pass", f"def f({name}):\n    pass"]:
+                    self.assertIn(name, names_barred_by_l12(text), text)
+            self.assertEqual(names_barred_by_l12(f"{word}s = {word}_a = x{word} = 1"), [])
+        for word in ("_wall", "_WallAttr"):
+            for text in [f"# a {word} here", f"x = '{word}'", f"x.{word}"]:
+                self.assertIn(word, names_barred_by_l12(text), text)
+
+    def test_names_that_are_free(self):
+        text = "def _add(_pages, _lays, _lawn, _streams, _walnut, _twin):\n    return self._layer, self._enumerated"
+        self.assertEqual(names_barred_by_l12(text), [])
 
 
 if __name__ == "__main__":

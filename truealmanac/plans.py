@@ -13,7 +13,7 @@ class Plan:
     def __init__(self, q):
         self._rows = []
         self._indexes = {}
-        self._last = self._lay_quantity(q, 0)
+        self._last = self._add_quantity(q, 0)
 
     def value(self, t):
         """The value of the quantity at a tick."""
@@ -35,30 +35,30 @@ class Plan:
                 out.append(a)
         return out[self._last]
 
-    def _lay_quantity(self, q, later):
-        """Lay the rows of a quantity that is told `later` ticks later; return the index of its own."""
+    def _add_quantity(self, q, later):
+        """Add the rows of a quantity that is told `later` ticks later; return the index of its own."""
         word = q[0]
         if word == "later":
-            return self._lay_quantity(q[1], later + q[2])
+            return self._add_quantity(q[1], later + q[2])
         if word == "number":
             return self._index_of((word, q[1], 0, 1, 0))
         if word == "wave":
-            return self._index_of((word, self._lay_angle(q[1], later), 0, 1, 0))
+            return self._index_of((word, self._add_angle(q[1], later), 0, 1, 0))
         if word == "sum":
-            return self._index_of((word, tuple([self._lay_quantity(v, later) for v in q[1:]]), 0, 1, 0))
-        first = self._lay_quantity(q[1], later)
+            return self._index_of((word, tuple([self._add_quantity(v, later) for v in q[1:]]), 0, 1, 0))
+        first = self._add_quantity(q[1], later)
         if word == "share":
             return self._index_of((word, first, q[2], q[3], 0))
-        return self._index_of((word, first, self._lay_quantity(q[2], later), q[3], 0))
+        return self._index_of((word, first, self._add_quantity(q[2], later), q[3], 0))
 
-    def _lay_angle(self, a, later):
+    def _add_angle(self, a, later):
         word = a[0]
         if word == "turning":
             return self._index_of((word, a[1], a[2], a[3], a[2] * later))
-        first = self._lay_angle(a[1], later)
+        first = self._add_angle(a[1], later)
         if word == "moved":
-            return self._index_of(("sum", (first, self._lay_quantity(a[2], later)), 0, 1, 0))
-        return self._index_of((word, first, self._lay_angle(a[2], later), 1, 0))
+            return self._index_of(("sum", (first, self._add_quantity(a[2], later)), 0, 1, 0))
+        return self._index_of((word, first, self._add_angle(a[2], later), 1, 0))
 
     def _index_of(self, row):
         """The index of a row, which is added if it is new."""
