@@ -140,3 +140,82 @@ def random_angle(rng, deep):
     if word == "moved":
         return (word, random_angle(rng, deep - 1), random_quantity(rng, deep - 1))
     return (word, random_angle(rng, deep - 1), random_angle(rng, deep - 1))
+
+
+def plain_local(zone, tick):
+    offset = zone[0]
+    for begin, later in zone[1]:
+        if begin <= tick:
+            offset = later
+    return tick + offset
+
+
+def terms_as_told(terms):
+    if not terms:
+        return ("number", 0)
+    return ("sum", *[("share", ("wave", ("turning", s, n, d)), amplitude, 1000000) for amplitude, s, n, d in terms])
+
+
+def longitude_as_told(sky, body):
+    told = sky["bodies"][body]
+    return ("moved", ("turning", *told["motion"]), terms_as_told(told["terms"]))
+
+
+def latitude_as_told(sky, body):
+    return terms_as_told(sky["bodies"][body]["latitude"])
+
+
+def elongation_as_told(sky, first, second):
+    return ("minus", longitude_as_told(sky, first), longitude_as_told(sky, second))
+
+
+def cosine_as_told(a):
+    return ("wave", ("moved", a, ("number", 324000)))
+
+
+def coordinates_as_told(sky, body):
+    """x, s and z of point 18."""
+    L = longitude_as_told(sky, body)
+    B = ("moved", ("turning", 0, 0, 1), latitude_as_told(sky, body))
+    x = ("product", cosine_as_told(B), cosine_as_told(L), 1000000)
+    return x, ("product", cosine_as_told(B), ("wave", L), 1000000), ("wave", B)
+
+
+def turned_coordinates_as_told(sky, body):
+    """x, y and w of point 18."""
+    x, s, z = coordinates_as_told(sky, body)
+    E, F = plain_wave(sky["tilt"]), plain_wave(sky["tilt"] + 324000)
+    y = ("sum", ("share", s, F, 1000000), ("share", z, -E, 1000000))
+    return x, y, ("sum", ("share", s, E, 1000000), ("share", z, F, 1000000))
+
+
+def turning_as_told(sky, place):
+    """T of point 18."""
+    s, n, d = sky["turning"]
+    return ("turning", s + place[1], n, d)
+
+
+def altitude_as_told(sky, place, body):
+    x, y, w = turned_coordinates_as_told(sky, body)
+    T = turning_as_told(sky, place)
+    G, H = plain_wave(place[0]), plain_wave(place[0] + 324000)
+    return (
+        "sum",
+        ("share", ("product", x, cosine_as_told(T), 1000000), H, 1000000),
+        ("share", ("product", y, ("wave", T), 1000000), H, 1000000),
+        ("share", w, G, 1000000),
+    )
+
+
+def error_of(kind, call, *arguments):
+    """The fields of the error of a kind that a call raises, as a dict, or None if it raises none."""
+    try:
+        call(*arguments)
+    except kind as error:
+        return vars(error)
+    return None
+
+
+def replaced(items, at, item):
+    """The items with another one at an index."""
+    return [*items[:at], item, *items[at + 1:]]

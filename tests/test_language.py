@@ -43,11 +43,11 @@ def functions_of(tree):
 
 
 def bound_names(tree):
-    """The names that assignments, loops, parameters, functions and classes bind."""
+    """The names that assignments, loops, handlers, parameters, functions and classes bind."""
     for node in ast.walk(tree):
         if isinstance(node, ast.Name) and isinstance(node.ctx, ast.Store):
             yield node.id
-        elif isinstance(node, (ast.FunctionDef, ast.ClassDef)):
+        elif isinstance(node, (ast.FunctionDef, ast.ClassDef)) or (isinstance(node, ast.ExceptHandler) and node.name):
             yield node.name
         elif isinstance(node, ast.arg):
             yield node.arg

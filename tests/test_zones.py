@@ -6,14 +6,7 @@ from datetime import date as python_date
 
 from truealmanac.errors import ZoneError
 from truealmanac.zones import check_zone, local, ruled_zone, ticks_of
-
-
-def plain_local(zone, tick):
-    offset = zone[0]
-    for begin, later in zone[1]:
-        if begin <= tick:
-            offset = later
-    return tick + offset
+from plain import plain_local
 
 
 def fault(call, *arguments):

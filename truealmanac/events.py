@@ -1,16 +1,15 @@
 """Risings, seasons, phases, meetings, nodes and eclipses (points 19 to 25, 27 and 28)."""
 
 from truealmanac.finder import changes, passings
-from truealmanac.places import altitude
+from truealmanac.places import risen
 from truealmanac.sky import elongation, latitude, longitude
 from truealmanac.values import value
-from truealmanac.waves import QUARTER, wave
+from truealmanac.waves import QUARTER
 
 
 def risings(sky, place, body, height, start, end):
     """The events "rise" and "set" of a body at a place."""
-    above = ("sum", altitude(sky, place, body), ("number", -wave(height)))
-    return _change_events(above, "rise", "set", (body,), start, end)
+    return change_events(risen(sky, place, body, height), "rise", "set", (body,), start, end)
 
 
 def seasons(sky, body, start, end):
@@ -33,7 +32,7 @@ def meetings(sky, first, second, start, end):
 
 def nodes(sky, body, start, end):
     """The events "north" and "south" of a body."""
-    return _change_events(latitude(sky, body), "north", "south", (body,), start, end)
+    return change_events(latitude(sky, body), "north", "south", (body,), start, end)
 
 
 def eclipses(sky, moon, sun, solar, lunar, start, end):
@@ -53,6 +52,11 @@ def forward_ticks(a, k, start, end):
     return [t for t, way in _quarter_passings(a, k, start, end) if way == 1]
 
 
+def change_events(q, up, down, names, start, end):
+    """An event with the word `up` or `down` for each change of a quantity in a span."""
+    return [(t, up if side == "up" else down, names) for t, side in changes(q, start, end)]
+
+
 def _quarter_passings(a, k, start, end):
     return passings(("moved", a, ("number", -QUARTER * k)), start, end)
 
@@ -65,7 +69,3 @@ def _quarter_events(a, forwards, backwards, names, start, end):
             word = forwards if way == 1 else backwards
             found.append((t, word + str(k), names))
     return sorted(found)
-
-
-def _change_events(q, up, down, names, start, end):
-    return [(t, up if side == "up" else down, names) for t, side in changes(q, start, end)]
