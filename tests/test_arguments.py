@@ -3,19 +3,38 @@
 import copy
 import unittest
 
+from truealmanac.almanac import almanac, next_event, wish_events
+from truealmanac.clocks import KeptClock, agreement
+from truealmanac.contacts import contacts, nearness
+from truealmanac.crescents import young_moons
+from truealmanac.desk import Desk
+from truealmanac.durations import add, difference
 from truealmanac.events import eclipses, meetings, nodes, phases, risings, seasons
 from truealmanac.feasts import feast_days, is_day
 from truealmanac.finder import changes, paper, passings
 from truealmanac.judge import changes_of, takes
+from truealmanac.leaps import counts_of, label
 from truealmanac.lunar import MoonTable, moon_table
+from truealmanac.meridian import east, meridian, south
+from truealmanac.notices import Bureau
+from truealmanac.pages import page_text, read_page
 from truealmanac.places import altitude
+from truealmanac.recurrences import next_day, occurrences, occurs
 from truealmanac.sky import check_sky, elongation, latitude, longitude, terms_quantity
+from truealmanac.skytext import read_sky, sky_text
+from truealmanac.tables import between, table_text
 from truealmanac.tides import flow, height, is_port, tides
+from truealmanac.workdays import count_working, go_on, is_working
 from truealmanac.zones import check_zone, local, ruled_zone, ticks_of
 import samples
 
 HILL = ("wave", ("turning", 0, 1296000, 97))
 ANGLE = ("turning", 5, 7000, 1)
+CYCLE = (3, ((30, 29), (31,)))
+
+
+def wishes():
+    return [("phases", "moon", "sun"), ("tides", samples.port()), ("phases", "moon", "sun")]
 
 
 class Arguments(unittest.TestCase):
@@ -59,6 +78,51 @@ class Arguments(unittest.TestCase):
         self.stays(is_day, feast, {"a": [5, 9], "b": [4]}, 5)
         self.stays(feast_days, feast, {"a": [5, 9], "b": [4]}, 0, 20)
 
+    def test_almanacs(self):
+        sky = samples.sky()
+        for wish in wishes():
+            self.stays(wish_events, sky, (1, 2), wish, 0, 900)
+            self.stays(next_event, sky, (1, 2), wish, 0, 900)
+        self.stays(almanac, sky, (1, 2), (5, ((1, 2), (3, 4))), wishes(), 0, 1)
+        entries = almanac(sky, (1, 2), (0, ()), wishes(), 0, 1)
+        self.stays(page_text, CYCLE, entries)
+        self.stays(read_page, CYCLE, page_text(CYCLE, entries))
+        self.stays(sky_text, sky)
+        self.stays(Desk, sky)
+        self.stays(Desk(sky).answer, "PORT brest 1 2 3 4")
+
+    def test_more_of_the_sky(self):
+        sky = samples.sky()
+        for names in [("moon", "sun"), ("mars", "still")]:
+            self.stays(nearness, sky, *names, 5000)
+            self.stays(contacts, sky, *names, 500000, 0, 900)
+            self.stays(young_moons, sky, (1, 2), *names, 0, 0, 0, 0, 900)
+        for call in (east, south):
+            self.stays(call, sky, (1, 2), "moon")
+        self.stays(meridian, sky, (1, 2), "moon", 0, 900)
+
+    def test_tables_and_clocks(self):
+        self.stays(between, (0, 5, (1, 2, 3)), 7)
+        self.stays(table_text, (0, 5, (1, 2, 3)))
+        sources = [(5, 9), (0, 7), (-3, 1)]
+        self.stays(agreement, sources, 1)
+        self.stays(KeptClock(5, 0, 9).hear, sources, 1)
+        self.stays(label, ((1, 1), (5, -1)), 7)
+        self.stays(counts_of, ((1, 1), (5, -1)), (6, False))
+        self.stays(add, "julian", (5, 1, 31), (1, 1))
+        self.stays(difference, "julian", (5, 1, 31), (6, 1, 30))
+
+    def test_recurrences_and_notices(self):
+        for recurrence in [("days", 5, 3), ("weeks", 5, 3, (0, 5)), ("months", 5, 3, 0)]:
+            self.stays(occurs, recurrence, 8)
+            self.stays(occurrences, recurrence, 0, 99)
+            self.stays(next_day, recurrence, 8)
+        for holidays in ([], [3, 3, 8, 9]):
+            self.stays(is_working, (5, 6), holidays, 3)
+            self.stays(count_working, (5, 6), holidays, 1, 30)
+            self.stays(go_on, (5, 6), holidays, 3, 5)
+        self.stays(Bureau().hear, ("rome", 5, (0, ((1, 2),))))
+
 
 class Results(unittest.TestCase):
     def new_each_time(self, call, *arguments):
@@ -84,23 +148,41 @@ class Results(unittest.TestCase):
         self.new_each_time(ticks_of, (5, ()), 7)
         self.new_each_time(feast_days, ("told", "a"), {"a": [5, 9]}, 0, 20)
 
+    def test_almanacs(self):
+        sky = samples.sky()
+        for wish in wishes():
+            self.new_each_time(wish_events, sky, (1, 2), wish, 0, 900)
+        self.new_each_time(almanac, sky, (1, 2), (0, ()), wishes(), 0, 1)
+        text = page_text(CYCLE, almanac(sky, (1, 2), (0, ()), wishes(), 0, 1))
+        self.new_each_time(read_page, CYCLE, text)
+        self.new_each_time(read_sky, sky_text(sky))
+        self.new_each_time(contacts, sky, "moon", "sun", 500000, 0, 900)
+        self.new_each_time(meridian, sky, (1, 2), "moon", 0, 900)
+        sky["bodies"]["moon"]["motion"] = (0, 1296000, 3000)
+        sky["bodies"]["sun"]["motion"] = (0, 0, 1)
+        self.new_each_time(young_moons, sky, (1, 2), "moon", "sun", 0, -324000, 0, 0, 9000)
+
+    def test_rows_of_an_almanac_are_new(self):
+        sky = samples.sky()
+        entries = almanac(sky, (1, 2), (0, ()), wishes(), 0, 1)
+        told = copy.deepcopy(entries)
+        entries[0][1].clear()
+        self.assertEqual(almanac(sky, (1, 2), (0, ()), wishes(), 0, 1), told)
+
+    def test_other_lists(self):
+        self.new_each_time(counts_of, ((1, 1), (5, -1)), (6, False))
+        self.new_each_time(occurrences, ("weeks", 5, 3, (0, 5)), 0, 99)
+        desk = Desk(samples.sky())
+        desk.answer("OFFSET 5")
+        self.new_each_time(desk.log)
+        bureau = Bureau()
+        bureau.hear(("rome", 5, (0, ())))
+        self.new_each_time(bureau.kept)
+
     def test_a_told_list_is_not_given_away(self):
         facts = {"a": [5, 9]}
         feast_days(("told", "a"), facts, 0, 20).append(7)
         self.assertEqual(facts, {"a": [5, 9]})
-
-
-class Interface(unittest.TestCase):
-    def test_methods_stand_in_the_class(self):
-        for name in ("date", "day", "years"):
-            self.assertIn(name, vars(MoonTable))
-
-    def test_functions_stand_in_their_files(self):
-        for module, function in [
-            ("finder", paper), ("finder", changes), ("judge", takes), ("sky", check_sky), ("places", altitude),
-            ("events", eclipses), ("tides", tides), ("lunar", moon_table), ("zones", ruled_zone), ("feasts", is_day),
-        ]:
-            self.assertEqual(function.__module__, "truealmanac." + module)
 
 
 if __name__ == "__main__":

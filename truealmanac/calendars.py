@@ -36,7 +36,7 @@ def day_of(calendar, date):
         raise DateError("month")
     if not 1 <= day <= lengths[month - 1]:
         raise DateError("day")
-    return year_start(calendar, year) + sum(lengths[:month - 1]) + day - 1
+    return month_start(calendar, year, month) + day - 1
 
 
 def date_of(calendar, day):
@@ -72,6 +72,11 @@ def year_start(calendar, year):
     rounds = before // len(years)
     ahead = years[:before % len(years)]
     return first + rounds * _length_of(years) + _length_of(ahead)
+
+
+def month_start(calendar, year, month):
+    """The day on which a month of a year begins."""
+    return year_start(calendar, year) + sum(months_of(calendar, year)[:month - 1])
 
 
 def year_of(calendar, day):

@@ -3,7 +3,7 @@
 A set is asked for in a row of days, and given as a list that has True or False for each of them.
 """
 
-from truealmanac.calendars import months_of, weekday, year_of, year_start
+from truealmanac.calendars import month_start, months_of, weekday, year_of
 
 FIRST_SPACE = 400
 
@@ -56,7 +56,7 @@ def _date_days(feast, first, last):
     for year in range(year_of(calendar, first), year_of(calendar, last) + 1):
         lengths = months_of(calendar, year)
         if 1 <= month <= len(lengths) and 1 <= number <= lengths[month - 1]:
-            days.append(year_start(calendar, year) + sum(lengths[:month - 1]) + number - 1)
+            days.append(month_start(calendar, year, month) + number - 1)
     return days
 
 

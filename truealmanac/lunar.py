@@ -2,6 +2,7 @@
 
 from truealmanac.errors import LunarError
 from truealmanac.events import forward_ticks
+from truealmanac.ordered import last_up_to
 from truealmanac.sky import elongation, longitude
 
 
@@ -15,8 +16,8 @@ class MoonTable:
     def date(self, day):
         """The date of a day; raises LunarError("day")."""
         months = self._months
-        at = _last_up_to(months, day)
-        year = _last_up_to(self._firsts, at) + 1
+        at = last_up_to(months, day)
+        year = last_up_to(self._firsts, at) + 1
         if year == 0 or at == len(months) - 1:
             raise LunarError("day")
         return (year, at - self._firsts[year - 1] + 1, day - months[at] + 1)
@@ -65,20 +66,7 @@ def _first_months(months, springs):
     """The indexes of the first months."""
     found = []
     for at in range(len(months) - 1):
-        last_spring = _last_up_to(springs, months[at + 1] - 1)
+        last_spring = last_up_to(springs, months[at + 1] - 1)
         if last_spring >= 0 and springs[last_spring] >= months[at]:
             found.append(at)
     return found
-
-
-def _last_up_to(numbers, top):
-    """The index of the last of some ascending numbers that is at most top; -1 if there is none."""
-    low = -1
-    high = len(numbers)
-    while high - low > 1:
-        middle = (low + high) // 2
-        if numbers[middle] <= top:
-            low = middle
-        else:
-            high = middle
-    return low
