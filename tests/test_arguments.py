@@ -4,6 +4,7 @@ import copy
 import unittest
 
 from truealmanac.almanac import almanac, next_event, wish_events
+from truealmanac.chronology import chronology, fulfilled, takes_circle
 from truealmanac.clocks import KeptClock, agreement
 from truealmanac.contacts import contacts, nearness
 from truealmanac.crescents import young_moons
@@ -12,18 +13,25 @@ from truealmanac.durations import add, difference
 from truealmanac.events import eclipses, meetings, nodes, phases, risings, seasons
 from truealmanac.feasts import feast_days, is_day
 from truealmanac.finder import changes, paper, passings
+from truealmanac.fine import fine_moments
 from truealmanac.judge import changes_of, takes
 from truealmanac.leaps import counts_of, label
 from truealmanac.lunar import MoonTable, moon_table
 from truealmanac.meridian import east, meridian, south
+from truealmanac.network import Network
 from truealmanac.notices import Bureau
+from truealmanac.offsets import meet, offset
 from truealmanac.pages import page_text, read_page
+from truealmanac.papers import paper_text, read_paper
 from truealmanac.places import altitude
 from truealmanac.recurrences import next_day, occurrences, occurs
+from truealmanac.reforms import days_of, full_date
 from truealmanac.sky import check_sky, elongation, latitude, longitude, terms_quantity
 from truealmanac.skytext import read_sky, sky_text
 from truealmanac.tables import between, table_text
 from truealmanac.tides import flow, height, is_port, tides
+from truealmanac.tops import takes_top, top, top_paper
+from truealmanac.watches import plan, takes_plan
 from truealmanac.workdays import count_working, go_on, is_working
 from truealmanac.zones import check_zone, local, ruled_zone, ticks_of
 import samples
@@ -123,6 +131,29 @@ class Arguments(unittest.TestCase):
             self.stays(go_on, (5, 6), holidays, 3, 5)
         self.stays(Bureau().hear, ("rome", 5, (0, ((1, 2),))))
 
+    def test_papers_and_chronologies(self):
+        cells = top_paper(HILL, 0, 300)
+        self.stays(takes_top, HILL, 0, 300, top(HILL, 0, 300), cells)
+        self.stays(takes_top, HILL, 0, 300, top(HILL, 0, 300), cells[1:])
+        self.stays(paper_text, 0, 300, cells)
+        for constraints in ([("a", "b", 5, 9), ("b", "c", None, 3)], [("a", "b", 5, 9), ("b", "a", None, -10)]):
+            for names in (["c", "a", "b"], ["a", "c", "b"]):
+                self.stays(chronology, names, constraints)
+                self.stays(fulfilled, names, constraints)
+            self.stays(takes_circle, constraints, ((0, 1), (1, 1)))
+
+    def test_watches_and_networks(self):
+        windows = [(5, 9), (1, 4), (3, 8), (3, 8)]
+        self.stays(plan, windows)
+        self.stays(takes_plan, windows, *plan(windows))
+        self.stays(takes_plan, windows, (0, 1), (9, 4))
+        self.stays(offset, (0, 5, 5, 0), 0)
+        self.stays(meet, [(0, 5, 5, 0), (0, 4, 4, 0)], 0)
+        self.stays(Network, ["b", "a", "c"], [("b", "a"), ("b", "a")])
+        reform = ("julian", ((5, "gregorian"), (9, CYCLE)))
+        self.stays(full_date, reform, 7)
+        self.stays(days_of, reform, (1, 1, 7))
+
 
 class Results(unittest.TestCase):
     def new_each_time(self, call, *arguments):
@@ -178,6 +209,21 @@ class Results(unittest.TestCase):
         bureau = Bureau()
         bureau.hear(("rome", 5, (0, ())))
         self.new_each_time(bureau.kept)
+
+    def test_papers_chronologies_and_networks(self):
+        self.new_each_time(top_paper, HILL, 0, 300)
+        self.new_each_time(fine_moments, HILL, changes(HILL, 0, 300)[0][0], 7)
+        cells = read_paper("PAPER 1 2\n1 1\n")[2]
+        cells.clear()
+        self.assertEqual(read_paper("PAPER 1 2\n1 1\n"), (1, 2, [(1, 1)]))
+        self.new_each_time(fulfilled, ["a", "b"], [("a", "b", 5, 9)])
+        told = chronology(["a", "b"], [("a", "b", 5, 9)])
+        told[1].clear()
+        self.assertEqual(len(chronology(["a", "b"], [("a", "b", 5, 9)])[1]), 2)
+        self.new_each_time(days_of, ("julian", ((5, "gregorian"),)), (5, 1, 1))
+        network = Network(["b", "a"], [("b", "a")])
+        network.tell("a", ("rome", 5, (0, ())))
+        self.new_each_time(network.queue)
 
     def test_a_told_list_is_not_given_away(self):
         facts = {"a": [5, 9]}

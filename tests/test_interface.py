@@ -41,6 +41,13 @@ FUNCTIONS = {
     "recurrences": ["occurs recurrence day", "occurrences recurrence first last", "next_day recurrence day"],
     "workdays": ["is_working rest holidays day", "count_working rest holidays first last",
                  "go_on rest holidays day n"],
+    "tops": [f"top q {SPAN}", f"top_paper q {SPAN}", f"takes_top q {SPAN} best cells"],
+    "fine": ["finer q m", "fine_moments q t m"],
+    "papers": [f"paper_text {SPAN} cells", "read_paper text"],
+    "chronology": ["chronology names constraints", "takes_circle constraints edges", "fulfilled names constraints"],
+    "watches": ["plan windows", "takes_plan windows chosen stops"],
+    "offsets": ["offset exchange m", "meet exchanges m"],
+    "reforms": ["full_date reform day", "days_of reform date"],
 }
 # The classes of each module with the arguments to make them, and their methods.
 CLASSES = {
@@ -48,6 +55,8 @@ CLASSES = {
     ("desk", "Desk"): ["__init__ self sky", "answer self line", "log self"],
     ("clocks", "KeptClock"): ["__init__ self rate low high", "known self", "count self d", "hear self sources f"],
     ("notices", "Bureau"): ["__init__ self", "hear self notice", "kept self", "zone self name", "meet self other"],
+    ("network", "Network"): ["__init__ self names links", "tell self name notice", "queue self", "deed self n",
+                             "calm_round self", "bureau self name"],
 }
 
 

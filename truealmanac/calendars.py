@@ -31,12 +31,21 @@ def day_of(calendar, date):
     year, month, day = date
     if not -YEAR_LIMIT <= year <= YEAR_LIMIT:
         raise DateError("year")
+    fault = date_fault(calendar, date)
+    if fault != "":
+        raise DateError(fault)
+    return month_start(calendar, year, month) + day - 1
+
+
+def date_fault(calendar, date):
+    """What is wrong with a date in its year: "month" or "day", or an empty string if nothing is."""
+    year, month, day = date
     lengths = months_of(calendar, year)
     if not 1 <= month <= len(lengths):
-        raise DateError("month")
+        return "month"
     if not 1 <= day <= lengths[month - 1]:
-        raise DateError("day")
-    return month_start(calendar, year, month) + day - 1
+        return "day"
+    return ""
 
 
 def date_of(calendar, day):

@@ -6,7 +6,7 @@ from truealmanac.values import value
 
 def takes(q, start, end, cells):
     """True exactly if a list of pairs of numbers is a paper of a quantity for a span."""
-    return _covers(start, end, cells) and _all_sure(q, cells)
+    return covers(start, end, cells) and _all_sure(q, cells)
 
 
 def changes_of(q, cells):
@@ -21,7 +21,7 @@ def changes_of(q, cells):
     return found
 
 
-def _covers(start, end, cells):
+def covers(start, end, cells):
     """True if the cells stand one right behind the other, from start to end."""
     next_tick = start
     for t, k in cells:
