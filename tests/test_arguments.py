@@ -4,16 +4,21 @@ import copy
 import unittest
 
 from truealmanac.almanac import almanac, next_event, wish_events
+from truealmanac.books import book, read_book
 from truealmanac.chronology import chronology, fulfilled, takes_circle
 from truealmanac.clocks import KeptClock, agreement
+from truealmanac.conditions import holds, observing_windows, spells_when
 from truealmanac.contacts import contacts, nearness
 from truealmanac.crescents import young_moons
+from truealmanac.cycles import next_of_all
 from truealmanac.desk import Desk
 from truealmanac.durations import add, difference
+from truealmanac.eras import day_of_era, era_date
 from truealmanac.events import eclipses, meetings, nodes, phases, risings, seasons
 from truealmanac.feasts import feast_days, is_day
 from truealmanac.finder import changes, paper, passings
 from truealmanac.fine import fine_moments
+from truealmanac.hours import is_open, next_turn, open_minutes
 from truealmanac.judge import changes_of, takes
 from truealmanac.leaps import counts_of, label
 from truealmanac.lunar import MoonTable, moon_table
@@ -26,8 +31,10 @@ from truealmanac.papers import paper_text, read_paper
 from truealmanac.places import altitude
 from truealmanac.recurrences import next_day, occurrences, occurs
 from truealmanac.reforms import days_of, full_date
+from truealmanac.revisions import best_matching, report
 from truealmanac.sky import check_sky, elongation, latitude, longitude, terms_quantity
 from truealmanac.skytext import read_sky, sky_text
+from truealmanac.spells import both, either, length, rest, spells_of
 from truealmanac.tables import between, table_text
 from truealmanac.tides import flow, height, is_port, tides
 from truealmanac.tops import takes_top, top, top_paper
@@ -154,6 +161,34 @@ class Arguments(unittest.TestCase):
         self.stays(full_date, reform, 7)
         self.stays(days_of, reform, (1, 1, 7))
 
+    def test_days_and_hours(self):
+        self.stays(next_of_all, [(4, 1), (6, 3)], 9)
+        self.stays(next_of_all, [(4, 1), (6, 2)], 9)
+        week, closed = ((0, 50), (70, 90)), [3, 9]
+        self.stays(is_open, week, closed, 1500)
+        self.stays(open_minutes, week, closed, 3)
+        self.stays(next_turn, week, closed, (5, ((1, 2), (1500, 4))), 7)
+        self.stays(era_date, (("a", 5), ("b", 90)), 70)
+        self.stays(day_of_era, (("a", 5), ("b", 90)), ("a", 1, 2, 9))
+
+    def test_spells_and_books(self):
+        first, second = [(1, 5), (7, 9), (20, 30)], [(5, 6), (11, 22)]
+        for call in (both, either):
+            self.stays(call, first, second)
+        self.stays(rest, first, 0, 25)
+        self.stays(length, first)
+        sky = samples.sky()
+        for condition in [("above", "sun", 0), ("apart", "sun", "moon", 900000), ("not", ("local", (0, ()), 5, 9))]:
+            self.stays(holds, sky, (1, 2), condition, 5)
+            self.stays(spells_when, sky, (1, 2), condition, 0, 300)
+            self.stays(observing_windows, sky, (1, 2), condition, 5, 0, 300)
+        feasts = {"b": ("told", "phase0"), "a": ("weekday", 6)}
+        self.stays(book, sky, (1, 2), (5, ((1, 2), (3, 4))), wishes(), feasts, (("a", 0),), 0, 1)
+
+    def test_revisions(self):
+        self.stays(best_matching, [1, 5, 5], [5, 6], 3)
+        self.stays(report, [(1, "a", ()), (5, "b", ("x",))], [(2, "a", ()), (9, "b", ("y",))], 3)
+
 
 class Results(unittest.TestCase):
     def new_each_time(self, call, *arguments):
@@ -224,6 +259,31 @@ class Results(unittest.TestCase):
         network = Network(["b", "a"], [("b", "a")])
         network.tell("a", ("rome", 5, (0, ())))
         self.new_each_time(network.queue)
+
+    def test_spells_and_books(self):
+        sky = samples.sky()
+        self.new_each_time(spells_of, HILL, 0, 300)
+        self.new_each_time(both, [(1, 5)], [(2, 9)])
+        self.new_each_time(either, [(1, 5)], [])
+        self.new_each_time(either, [], [(1, 5)])
+        self.new_each_time(rest, [], 0, 9)
+        for condition in [("above", "sun", 0), ("local", (0, ()), 5, 9), ("or", ("local", (0, ()), 5, 9), ("above", "sun", 0))]:
+            self.new_each_time(spells_when, sky, (1, 2), condition, 0, 300)
+            self.new_each_time(observing_windows, sky, (1, 2), condition, 5, 0, 300)
+        text = book(sky, (1, 2), (0, ()), wishes(), {"a": ("weekday", 6)}, None, 0, 1)
+        self.new_each_time(read_book, text)
+        told = read_book(text)
+        told[0][1].clear()
+        told[0][2].append("b")
+        self.assertNotEqual(read_book(text), told)
+        self.new_each_time(best_matching, [1, 5, 5], [5, 6], 3)
+
+    def test_lists_of_spells_are_not_given_away(self):
+        spells = [(1, 5), (8, 9)]
+        for told in (either(spells, []), either([], spells), both(spells, [(0, 20)]), both([(0, 20)], spells)):
+            self.assertEqual(told, spells)
+            told.append((30, 40))
+        self.assertEqual(spells, [(1, 5), (8, 9)])
 
     def test_a_told_list_is_not_given_away(self):
         facts = {"a": [5, 9]}

@@ -48,6 +48,17 @@ FUNCTIONS = {
     "watches": ["plan windows", "takes_plan windows chosen stops"],
     "offsets": ["offset exchange m", "meet exchanges m"],
     "reforms": ["full_date reform day", "days_of reform date"],
+    "cycles": ["next_of_all pairs day"],
+    "hours": ["is_open week closed time", "open_minutes week closed day", "next_turn week closed zone tick"],
+    "eras": ["era_date eras day", "day_of_era eras date"],
+    "spells": [f"spells_of q {SPAN}", "both first second", "either first second", f"rest spells {SPAN}",
+               "length spells"],
+    "conditions": ["holds sky place condition tick", f"spells_when sky place condition {SPAN}",
+                   f"observing_windows sky place condition least {SPAN}"],
+    "books": ["book sky place zone wishes feasts eras first last", "read_book text"],
+    "ratios": ["fraction n d", "plus a b", "minus a b", "times a b", "over a b", "is_less a b",
+               "moment_fraction moment", "clock_text a"],
+    "revisions": ["best_matching old new limit", "report old new limit"],
 }
 # The classes of each module with the arguments to make them, and their methods.
 CLASSES = {

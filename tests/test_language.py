@@ -107,6 +107,9 @@ class Rules(unittest.TestCase):
             for node in [node for node in ast.walk(tree) if isinstance(node, ast.ImportFrom)]:
                 self.assertIn(node, tree.body)
                 self.assertEqual(node.level, 0)
+                if node.module == "math":
+                    self.check_math(tree, node)
+                    continue
                 path = PACKAGE.parent / (node.module.replace(".", "/") + ".py")
                 self.assertTrue(path.is_relative_to(PACKAGE) and path.exists(), node.module)
                 told = ast.parse(path.read_text()).body
@@ -115,6 +118,18 @@ class Rules(unittest.TestCase):
                 for alias in node.names:
                     self.assertIsNone(alias.asname)
                     self.assertIn(alias.name, names)
+
+    def check_math(self, tree, node):
+        """The functions of the library (L2) are only called, in functions, with arguments by position."""
+        for alias in node.names:
+            self.assertIsNone(alias.asname)
+            self.assertIn(alias.name, ("gcd", "lcm", "isqrt", "comb", "perm", "factorial"))
+            calls = [call for function in functions_of(tree) for call in ast.walk(function)
+                     if isinstance(call, ast.Call) and isinstance(call.func, ast.Name) and call.func.id == alias.name]
+            uses = [name for name in ast.walk(tree) if isinstance(name, ast.Name) and name.id == alias.name]
+            self.assertEqual(len({id(call.func) for call in calls}), len(uses))
+            self.assertFalse([call for call in calls if call.keywords])
+            self.assertFalse((PACKAGE / "math.py").exists())
 
     def test_no_circles_of_imports(self):
         needs = {}

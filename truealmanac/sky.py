@@ -34,14 +34,14 @@ def terms_quantity(terms):
 
 def longitude(sky, body):
     """The longitude of a body, an angle expression."""
-    _check_body(sky, body)
+    check_body(sky, body)
     told = sky["bodies"][body]
     return ("moved", ("turning", *told["motion"]), terms_quantity(told["terms"]))
 
 
 def latitude(sky, body):
     """The latitude of a body, a quantity."""
-    _check_body(sky, body)
+    check_body(sky, body)
     return terms_quantity(sky["bodies"][body]["latitude"])
 
 
@@ -50,7 +50,8 @@ def elongation(sky, first, second):
     return ("minus", longitude(sky, first), longitude(sky, second))
 
 
-def _check_body(sky, body):
+def check_body(sky, body):
+    """Raise SkyError if a body is not in the sky."""
     if body not in sky["bodies"]:
         raise SkyError("body", body)
 

@@ -51,6 +51,22 @@ def ticks_of(zone, time):
     return found
 
 
+def offsets_in(zone, start, end):
+    """A span cut at the changes of a zone: the list of tuples (start, end, offset)."""
+    offset, changes = zone
+    found = []
+    begin = start
+    for change, later in changes:
+        if change > end:
+            break
+        if change > begin:
+            found.append((begin, change - 1, offset))
+            begin = change
+        offset = later
+    found.append((begin, end, offset))
+    return found
+
+
 def ruled_zone(offset, rules, first, last):
     """The zone of rules for the years from first to last; raises ZoneError if it is none."""
     changes = []
