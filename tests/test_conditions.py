@@ -108,6 +108,25 @@ class Conditions(unittest.TestCase):
             self.assertIs(holds(sky, PLACE, ("apart", "a", "b", limit), 5), not near)
             self.assertEqual(spells_when(sky, PLACE, ("apart", "a", "b", limit), 0, 9), [] if near else [(0, 9)])
 
+    def test_values_around_the_edge(self):
+        # The altitude of a, which stands still nearly in the zenith, is 1 less than, equal to and 1 above some wave.
+        bodies = {name: {"motion": (s, 0, 1), "terms": [], "latitude": []} for name, s in [("a", 3000), ("b", 70000)]}
+        sky = {"bodies": bodies, "tilt": 0, "turning": (0, 0, 1)}
+        w = plain_value(altitude_as_told(sky, (0, 0), "a"), 5)
+        for apart in (-2, -1, 0, 1, 2):
+            height = [h for h in range(320000, 324000) if plain_wave(h) == w + apart][0]
+            self.assertIs(holds(sky, (0, 0), ("above", "a", height), 5), apart <= 0)
+            self.assertEqual(spells_when(sky, (0, 0), ("above", "a", height), 3, 7), [(3, 7)] if apart <= 0 else [])
+        squares = 0
+        for v, x in zip(coordinates_as_told(sky, "a"), coordinates_as_told(sky, "b")):
+            squares += (plain_value(v, 5) - plain_value(x, 5)) ** 2 // 1000000
+        for apart in (-2, -1, 0, 1, 2):
+            limit = [c for c in range(1, 500000) if c * c // 1000000 == squares + apart][0]
+            # With the same square the bodies are nearer, as the nearness is up.
+            self.assertIs(holds(sky, (0, 0), ("apart", "a", "b", limit), 5), apart < 0)
+            told = [(3, 7)] if apart < 0 else []
+            self.assertEqual(spells_when(sky, (0, 0), ("apart", "a", "b", limit), 3, 7), told)
+
     def test_local(self):
         for begin, end in [(0, 0), (0, 1439), (1439, 1439), (700, 700), (0, 359), (1000, 1439), (300, 1200), (759, 761)]:
             for zone in [(0, ()), (60, ()), (-1500, ()), (1500, ()), ZONE, (0, ((1440, 1), (1441, 0), (1442, 1440)))]:

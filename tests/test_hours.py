@@ -149,6 +149,17 @@ class Turns(unittest.TestCase):
             self.assertEqual(self.check(ALWAYS, closed + [34, 35], zone, 33 * DAY), 33 * DAY + 700)
             self.assertIs(self.check(ALWAYS, [34, 35] + list(range(60, 70)), zone, tick) is not None, found)
 
+    def test_the_greatest_offsets(self):
+        for offset in (-1500, -1440, -1, 1, 1440, 1500):
+            turn = 100 * DAY - offset
+            for tick, told in [(turn - 20001, None), (turn - 20000, turn), (turn - 1, turn), (turn, turn + DAY)]:
+                self.assertEqual(self.check(ALWAYS, [100], (offset, ()), tick), told)
+            # The last minute of a day alone.
+            turn = 100 * DAY + 1439 - offset
+            week = (((99 * DAY + 1439) % WEEK, (99 * DAY + 1439) % WEEK + 1),)
+            for tick, told in [(turn - 10080, turn - 10079), (turn - 10079, turn), (turn - 1, turn), (turn, turn + 1)]:
+                self.assertEqual(self.check(week, [], (offset, ()), tick), told)
+
     def test_gaps_and_folds(self):
         # At the tick 2000 the local time leaps from 2000 to 2100: past a begin, past an end, past both.
         for zone in [(0, ((2000, 100),)), (100, ((2000, 0),)), (0, ((2000, 100), (2030, 0))), (0, ((2000, -1500),)),

@@ -5,7 +5,7 @@ import unittest
 from datetime import date as python_date
 
 from truealmanac.errors import ZoneError
-from truealmanac.zones import check_zone, local, ruled_zone, ticks_of
+from truealmanac.zones import check_zone, local, offsets_in, ruled_zone, ticks_of
 from plain import plain_local
 
 
@@ -147,6 +147,30 @@ class Rules(unittest.TestCase):
         self.assertEqual(fault(ruled_zone, 0, both, 2023, 2023), "order")
         self.assertEqual(python_date(2016, 2, 1).weekday(), 0)
         self.assertIsNone(fault(ruled_zone, 0, both, 2016, 2016))
+
+
+class CutSpans(unittest.TestCase):
+    def test_parts(self):
+        zone = (5, ((10, 60), (20, -60), (21, 0)))
+        self.assertEqual(offsets_in(zone, 0, 30), [(0, 9, 5), (10, 19, 60), (20, 20, -60), (21, 30, 0)])
+        self.assertEqual(offsets_in(zone, 10, 20), [(10, 19, 60), (20, 20, -60)])
+        self.assertEqual(offsets_in(zone, 11, 19), [(11, 19, 60)])
+        self.assertEqual(offsets_in(zone, 9, 9), [(9, 9, 5)])
+        self.assertEqual(offsets_in(zone, 10, 10), [(10, 10, 60)])
+        self.assertEqual(offsets_in(zone, 50, 90), [(50, 90, 0)])
+        self.assertEqual(offsets_in((7, ()), -5, 5), [(-5, 5, 7)])
+
+    def test_each_tick(self):
+        rng = random.Random(35)
+        for _ in range(60):
+            begins = sorted(rng.sample(range(-40, 40), rng.randint(0, 12)))
+            zone = (rng.randint(-90, 90), tuple((begin, rng.randint(-90, 90)) for begin in begins))
+            start = rng.randint(-50, 40)
+            parts = offsets_in(zone, start, start + rng.choice([0, 1, 30]))
+            self.assertTrue(all(begin <= end for begin, end, _ in parts))
+            ticks = [(t, offset) for begin, end, offset in parts for t in range(begin, end + 1)]
+            told = [(t, plain_local(zone, t) - t) for t in range(start, parts[-1][1] + 1)]
+            self.assertEqual(ticks, told)
 
 
 if __name__ == "__main__":
