@@ -97,6 +97,7 @@ class Books(unittest.TestCase):
         self.assertEqual(read_book("BOOK 5 40\n"), [])
         self.assertEqual(book(sky, PLACE, ZONE, [], {}, ERAS, 5, 40), "BOOK 5 40\nERA newer 1\n")
         self.assertEqual(read_book("BOOK 5 40\nERA newer 1\n"), [])
+        self.assertEqual(book(sky, PLACE, ZONE, [], {}, (), 5, 40), "BOOK 5 40\n")
         self.check(sky, ZONE, WISHES, {}, None, 5, 40)
         lines = self.check(sky, ZONE, [], FEASTS, None, 5, 40)
         self.assertEqual(lines[1:3], ["DAY 7 1 1 7 6", "FEAST sunday"])

@@ -105,6 +105,15 @@ class Chronologies(unittest.TestCase):
         self.assertEqual(chronology(["a"], []), ("bounds", {}))
         self.assertEqual(list(fulfilled(["a"], [])), ["a"])
 
+    def test_no_names_and_many(self):
+        # Beyond the limits of the document there is no error.
+        self.assertEqual(chronology([], []), ("bounds", {}))
+        self.assertEqual(fulfilled([], []), {})
+        names = [str(k) for k in range(14)]
+        constraints = [(a, b, 1, 2) for a, b in zip(names, names[1:])] * 3
+        self.assertEqual(chronology(names, constraints)[1]["0", "13"], (13, 26))
+        self.assertTrue(fulfils(fulfilled(names, constraints), constraints))
+
     def test_two_names(self):
         for low, high in [(3, 8), (3, 3), (-8, -3), (0, 0), (-BIG, BIG), (None, 8), (3, None), (None, None)]:
             back = (None if high is None else -high, None if low is None else -low)

@@ -86,6 +86,18 @@ class Meridian(unittest.TestCase):
             self.assertEqual(plain_value(south_as_told(sky, (0, 0), "star"), 1), 0)
             self.assertEqual(meridian(sky, (0, 0), "star", 0, 1), [])
 
+    def test_the_least_south_and_north(self):
+        # Near the pole of the sky the south is 1 or -1 when a body comes to the meridian.
+        found = set()
+        for at in range(323990, 324000):
+            for turning in ((0, 288000, 1), (1000, 437000, 1), (77, 130001, 1)):
+                star = {"motion": (0, 0, 1), "terms": [], "latitude": [(at, 324000, 0, 1)]}
+                self.sky = {"bodies": {"star": star}, "tilt": 0, "turning": turning}
+                self.assertEqual(meridian(self.sky, (0, 0), "star", 0, 150), self.plain_meridian((0, 0), "star", 0, 150))
+                for t, kind, _ in meridian(self.sky, (0, 0), "star", 0, 150):
+                    found.add((kind, plain_value(south_as_told(self.sky, (0, 0), "star"), t)))
+        self.assertTrue({("noon", 1), ("mid", -1)} <= found)
+
     def test_unknown_body(self):
         told = {"code": "body", "name": "venus"}
         for call in (east, south):

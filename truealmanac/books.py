@@ -4,7 +4,7 @@ from truealmanac.almanac import almanac
 from truealmanac.bounds import is_name, within
 from truealmanac.calendars import DAY_LIMIT, date_of, weekday
 from truealmanac.eras import era_date
-from truealmanac.errors import BookError
+from truealmanac.errors import BookError, DateError
 from truealmanac.feasts import feast_days
 from truealmanac.pages import may_follow, row_line, row_of
 from truealmanac.texts import line_text, lines_of, number_of, numbers_of
@@ -71,9 +71,12 @@ def _feasts_by_day(feasts, facts, first, last):
 
 def _era_line(eras, first):
     """The line of the era of the first day, or an empty text if there is none."""
-    if eras is None or first < eras[0][1]:
+    if eras is None:
         return ""
-    name, year, _, _ = era_date(eras, first)
+    try:
+        name, year, _, _ = era_date(eras, first)
+    except DateError:
+        return ""
     return line_text(("ERA", name, year))
 
 

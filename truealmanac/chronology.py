@@ -39,7 +39,7 @@ def fulfilled(names, constraints):
     if distances is None:
         return None
     # Ticks have a range, so they lie around 0 as far as one can.
-    lowest = min(list(distances.values()))
+    lowest = min(list(distances.values()), default=0)
     return {name: distances[name] - lowest // 2 for name in names}
 
 
@@ -70,6 +70,7 @@ def _distances_or_circle(names, ways):
     """
     distances = {name: 0 for name in names}
     arrivals = {}
+    changed = None
     # Without a circle, as many rounds as there are names leave nothing to do in the last one.
     for _ in names:
         changed = None
@@ -79,7 +80,9 @@ def _distances_or_circle(names, ways):
                 arrivals[way[1]] = way
                 changed = way[1]
         if changed is None:
-            return distances, None
+            break
+    if changed is None:
+        return distances, None
     return None, _circle_behind(arrivals, changed, len(names))
 
 
