@@ -74,10 +74,10 @@ def _era_line(eras, first):
     if eras is None:
         return ""
     try:
-        name, year, _, _ = era_date(eras, first)
+        date = era_date(eras, first)
     except DateError:
         return ""
-    return line_text(("ERA", name, year))
+    return line_text(("ERA", date[0], date[1]))
 
 
 def _span_of(words):
